@@ -1,6 +1,6 @@
 """What the tests share: calls written by name, answers call by call, and a slow model to compare with."""
 
-from itertools import product
+from itertools import combinations, product
 
 from twoaskedapart.plans import answers
 
@@ -13,6 +13,12 @@ NUMBER_OF = {
 
 # An odd one among three evens: of four pairs of questions only three can be won.
 ODD_ONE = [("begin", 2, 2, 2, 2), ("odd", 0, 0, 0), ("odd", 0, 1, 0), ("odd", 1, 0, 0), ("odd", 1, 1, 1)]
+
+# Asked alone, the first can't answer so that both of the second's questions are won.
+TORN = [("begin", 1, 2, 2, 1), ("wins", 0, 0, 1, 0, 1), ("wins", 0, 1, 0, 0, 1)]
+
+# The second has to say what the first was asked: words help, each as much as a question counts.
+GUESS = [("begin", 3, 1, 1, 3), ("wins", 0, 0, 0, 0, 1), ("wins", 1, 0, 0, 1, 1), ("wins", 2, 0, 0, 2, 1)]
 
 
 def encode(calls):
@@ -52,6 +58,21 @@ def run(calls):
 def last(*calls):
     """What the last of the calls answers."""
     return run(list(calls))[-1]
+
+
+def all_win(x, y, a, b):
+    spots = product(range(x), range(y), range(a), range(b))
+    return [("begin", x, y, a, b)] + [("wins", *spot, 1) for spot in spots]
+
+
+def nothing_counts(x, y):
+    return [("counts", i, j, 0) for i, j in product(range(x), range(y))]
+
+
+def told_exchanged(calls):
+    """The calls that tell the same game with the first and the second exchanged."""
+    turn = {"begin": (1, 0, 3, 2), "wins": (1, 0, 3, 2, 4), "odd": (1, 0, 2), "counts": (1, 0, 2)}
+    return [(name, *[told[place] for place in turn[name]]) for name, *told in calls]
 
 
 class Model:
@@ -147,6 +168,76 @@ class Model:
     def plans(self, t):
         plans = self.all_plans()
         return [sum(1 for won, plan in plans if won == t), len(plans)]
+
+    def nth(self, t, k):
+        just = sorted(plan for won, plan in self.all_plans() if won == t)
+        return [self.sizes[0] + self.sizes[1], *just[k]] if k < len(just) else [-33]
+
+    def sets_won(self):
+        """For each plan the pairs that it wins, whether they count or not."""
+        return {frozenset((x, y) for x, y in self.much if (x, y, first[x], second[y]) in self.winning)
+                for first in self.first_rows() for second in self.second_rows()}
+
+    def counting(self):
+        return sorted(pair for pair, much in self.much.items() if much > 0)
+
+    def perfect(self):
+        return [1 if any(won >= set(self.counting()) for won in self.sets_won()) else 0]
+
+    def core(self):
+        won_sets = self.sets_won()
+        for size in range(1, 10):
+            for pairs in combinations(self.counting(), size):
+                if not any(won >= set(pairs) for won in won_sets):
+                    return [size, *[number for pair in pairs for number in pair]]
+        return [-33]
+
+    def heard(self):
+        x, y, a, b = self.sizes
+        return sum(max(sum(self.much[(i, j)] for j in range(y)
+                           if any((i, j, k, m) in self.winning for m in range(b))) for k in range(a))
+                   for i in range(x))
+
+    def told(self, c):
+        if c not in (1, 2, 3):
+            return [-22]
+        x, y, a, b = self.sizes
+        most = 0
+        for said in product(product(range(c), range(a)), repeat=x):
+            won = 0
+            for word, j in product(range(c), range(y)):
+                here = [i for i in range(x) if said[i][0] == word]
+                won += max(sum(self.much[(i, j)] for i in here if (i, j, said[i][1], m) in self.winning)
+                           for m in range(b))
+            most = max(most, won)
+        return [most, self.heard()]
+
+    def twice(self):
+        if max(self.sizes) > 2:
+            return [-28]
+        x, y, a, b = [list(product(range(size), repeat=2)) for size in self.sizes]
+        most = 0
+        for said in product(a, repeat=len(x)):
+            most = max(most, sum(max(sum(self.much[(i[0], j[0])] * self.much[(i[1], j[1])]
+                                         for i, k in zip(x, said)
+                                         if (i[0], j[0], k[0], m[0]) in self.winning
+                                         and (i[1], j[1], k[1], m[1]) in self.winning) for m in b) for j in y))
+        return [most, sum(one * two for one in self.much.values() for two in self.much.values())]
+
+    def swap(self):
+        self.sizes = (self.sizes[1], self.sizes[0], self.sizes[3], self.sizes[2])
+        self.winning = {(y, x, b, a) for x, y, a, b in self.winning}
+        self.much = {(y, x): much for (x, y), much in self.much.items()}
+        return [0]
+
+    def pair(self, x, y):
+        if (x, y) not in self.much:
+            return [-2]
+        return [self.much[(x, y)], *[1 if (x, y, a, b) in self.winning else 0
+                                     for a in range(self.sizes[2]) for b in range(self.sizes[3])]]
+
+    def game(self):
+        return [*self.sizes, sum(self.much.values()), self.heard()]
 
 
 def model_run(calls):

@@ -3,11 +3,8 @@
 import random
 import unittest
 
-from tests.helper import FAR, encode, model_run, run, split
-from twoaskedapart.plans import answers
-
-SMALL = (2, 2, 3, 3)
-LARGEST = (3, 3, 4, 4)
+from tests.helper import FAR, NUMBER_OF, model_run, run
+from tests.thrown import FOR_TWICE, LARGEST, SMALL
 
 
 def below(dice, size):
@@ -42,13 +39,15 @@ def setting(dice, sizes):
 
 def asking(dice, sizes):
     x, y, a, b = sizes
-    name = dice.choice(["value", "best", "reply", "replyto", "plans"])
-    if name == "best":
-        return (name,)
-    if name == "plans":
-        return (name, dice.choice([0, 1, 2, 3, 4, 5, 6, 99, 100, FAR]))
-    parts = {"value": [(x, a), (y, b)], "reply": [(x, a)], "replyto": [(y, b)]}[name]
-    return (name, row(dice, parts))
+    name = dice.choice(["value", "best", "reply", "replyto", "plans", "nth", "perfect", "core", "told", "twice", "swap",
+                        "pair", "game"])
+    if name in ("value", "reply", "replyto"):
+        parts = {"value": [(x, a), (y, b)], "reply": [(x, a)], "replyto": [(y, b)]}[name]
+        return (name, row(dice, parts))
+    t = dice.choice([0, 0, 1, 1, 2, 2, 3, 4, 5, 6, 99, 100, FAR])
+    told = {"plans": (t,), "nth": (t, dice.choice([0, 0, 1, 2, 3, 7, 20, 63, 4095, 4096, FAR])),
+            "told": (dice.choice([1, 2, 3, 1, 2, 3, 0, 4, FAR]),), "pair": (below(dice, x), below(dice, y))}
+    return (name, *told.get(name, ()))
 
 
 def line(dice, most, length):
@@ -60,7 +59,9 @@ def line(dice, most, length):
             if 0 < min(calls[-1][1:]) and all(told <= size for told, size in zip(calls[-1][1:], LARGEST)):
                 sizes = calls[-1][1:]
         else:
-            calls.append(setting(dice, sizes) if dice.random() < 0.65 else asking(dice, sizes))
+            calls.append(setting(dice, sizes) if dice.random() < 0.6 else asking(dice, sizes))
+            if calls[-1] == ("swap",):
+                sizes = (sizes[1], sizes[0], sizes[3], sizes[2])
     return calls
 
 
@@ -77,12 +78,19 @@ class AgainstModel(unittest.TestCase):
             calls = [("begin", *[dice.randint(1, size) for size in LARGEST])] + line(dice, LARGEST, 40)
             self.assertEqual(run(calls), model_run(calls), calls)
 
+    def test_lines_of_games_that_can_be_played_twice(self):
+        dice = random.Random(1972)
+        for time in range(40):
+            calls = [("begin", *[dice.randint(1, size) for size in FOR_TWICE])] + line(dice, FOR_TWICE, 60)
+            self.assertEqual(run(calls), model_run(calls), calls)
+
     def test_largest_games(self):
         dice = random.Random(1995)
         for time in range(4):
             told = [setting(dice, LARGEST) for one in range(dice.choice([20, 60, 150]))]
-            asked = [("best",), ("plans", 2), ("reply", [3, 0, 2]), ("replyto", [1, 3, 3]),
-                     ("value", [3, 2, 1, 0, 1, 2])]
+            asked = [("best",), ("plans", 2), ("reply", [3, 0, 2]), ("replyto", [1, 3, 3]), ("nth", 1, 40),
+                     ("value", [3, 2, 1, 0, 1, 2]), ("perfect",), ("core",), ("told", 1), ("told", 2), ("told", 3),
+                     ("twice",), ("game",), ("swap",), ("best",), ("core",), ("told", 2), ("game",)]
             calls = [("begin", *LARGEST)] + told + asked
             self.assertEqual(run(calls), model_run(calls), calls)
 
@@ -95,52 +103,19 @@ class AgainstModel(unittest.TestCase):
             if kept:
                 self.assertEqual(run([calls[at] for at in kept]), [answered[at] for at in kept])
 
-
-class WhatHolds(unittest.TestCase):
-    def test_best_and_replies(self):
-        dice = random.Random(2005)
-        for time in range(60):
-            sizes = [dice.randint(1, size) for size in LARGEST]
-            told = [("begin", *sizes)] + [setting(dice, sizes) for one in range(80)]
-            x, y, a, b = sizes
-            best = run(told + [("best",)])[-1]
-            first, second = best[2:2 + x], best[2 + x:]
-            asked = [("value", best[2:]), ("reply", first), ("replyto", second), ("plans", best[0])]
-            value, reply, replyto, plans = run(told + asked)[-4:]
-            self.assertEqual(value, best[:2])
-            self.assertEqual(reply, [best[0]] + second)
-            self.assertEqual(replyto[0], best[0])
-            self.assertGreater(plans[0], 0)
-            self.assertEqual(run(told + [("plans", best[0] + 1)])[-1], [0, a ** x * b ** y])
-
-    def test_counts_of_plans_add_up(self):
-        dice = random.Random(2012)
-        for time in range(10):
-            told = [("begin", *LARGEST)] + [("odd", x, y, dice.randrange(2)) for x in range(3) for y in range(3)]
-            asked = [("plans", t) for t in range(10)]
-            answered = run(told + asked)[-10:]
-            self.assertEqual(sum(just for just, in_all in answered), 4096)
-            self.assertEqual({in_all for just, in_all in answered}, {4096})
-
-
-class LongLines(unittest.TestCase):
-    def test_longest_lines_of_the_largest_games(self):
-        dice = random.Random(2022)
-        told = [("begin", *LARGEST)] + [setting(dice, LARGEST) for one in range(100)]
-        best, plans = model_run(told + [("best",), ("plans", 5)])[-2:]
-        for call, expected in [(("best",), best), (("plans", 5), plans)]:
-            given = split(answers(encode(told + [call] * 299)))
-            self.assertEqual(len(given), 400)
-            self.assertEqual(given[101:], [expected] * 299)
-
-    def test_longest_lists_of_numbers(self):
-        calls = [("begin", *LARGEST)] + [("value", [3] * 10)] * 399
-        self.assertLessEqual(len(encode(calls)), 4800)
-        self.assertEqual(run(calls), [[0]] + [[-22]] * 399)
-
-    def test_many_begins(self):
-        calls = [("begin", *LARGEST), ("wins", 2, 2, 3, 3, 1), ("counts", 2, 2, 99), ("best",)] * 100
-        self.assertEqual(run(calls), [[0], [0], [1], [99, 107, 0, 0, 3, 0, 0, 3]] * 100)
+    def test_every_call_and_every_refusal_is_thrown(self):
+        dice = random.Random(1964)
+        answered = {}
+        for time in range(150):
+            calls = line(dice, SMALL, dice.randint(1, 40))
+            for (name, *told), given in zip(calls, run(calls)):
+                answered.setdefault(name, set()).add(min(given[0], 0))
+        self.assertEqual(set(answered), set(NUMBER_OF))
+        refusals = {"begin": {-22}, "wins": {-2, -11, -22}, "odd": {-2, -11, -22}, "counts": {-2, -11, -22},
+                    "value": {-11, -22}, "best": {-11}, "reply": {-11, -22}, "replyto": {-11, -22}, "plans": {-11},
+                    "nth": {-11, -33}, "perfect": {-11}, "core": {-11, -33}, "told": {-11, -22}, "twice": {-11, -28},
+                    "swap": {-11}, "pair": {-2, -11}, "game": {-11}}
+        self.assertEqual(answered, {name: refused | {0} for name, refused in refusals.items()})
 
 
 if __name__ == "__main__":

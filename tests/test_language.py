@@ -29,7 +29,9 @@ EXPRESSIONS = (
     ast.keyword)
 SIGNS = (
     ast.Load, ast.Store, ast.Add, ast.Sub, ast.Mult, ast.FloorDiv, ast.Mod, ast.USub, ast.Not, ast.And, ast.Or,
-    ast.Eq, ast.NotEq, ast.Lt, ast.LtE, ast.Gt, ast.GtE, ast.In, ast.NotIn, ast.Is, ast.IsNot)
+    ast.BitAnd, ast.Eq, ast.NotEq, ast.Lt, ast.LtE, ast.Gt, ast.GtE, ast.In, ast.NotIn, ast.Is, ast.IsNot)
+WALKED_IN = ("list", "tuple", "dict", "sorted", "sum", "any", "all", "enumerate", "zip")
+CHANGING = ("append", "clear", "extend", "insert", "pop", "remove", "reverse", "setdefault", "update")
 PLAIN = (ast.Constant, ast.UnaryOp, ast.USub, ast.Tuple, ast.Load)
 
 
@@ -51,6 +53,25 @@ def nodes(kinds):
         for node in ast.walk(ast.parse(text_of(path))):
             if isinstance(node, kinds):
                 yield node
+
+
+def nodes_with_parents(kinds):
+    for path in package_files():
+        for parent in ast.walk(ast.parse(text_of(path))):
+            for node in ast.iter_child_nodes(parent):
+                if isinstance(node, kinds):
+                    yield node, parent
+
+
+def called_name(node):
+    """The name of Python's own, or of a method, that is called here; else an empty text."""
+    if not isinstance(node, ast.Call):
+        return ""
+    return node.func.id if isinstance(node.func, ast.Name) else node.func.attr
+
+
+def own_methods():
+    return {part.name for node in nodes(ast.ClassDef) for part in node.body if isinstance(part, ast.FunctionDef)}
 
 
 class Text(unittest.TestCase):
@@ -121,6 +142,45 @@ class Form(unittest.TestCase):
                 self.assertIn(node.comparators[0].value, (None, True, False))
 
 
+class Walks(unittest.TestCase):
+    def test_walked_at_once(self):
+        for node, parent in nodes_with_parents(ast.Call):
+            if called_name(node) in ("zip", "enumerate", "reversed", "range", "items", "keys", "values"):
+                if isinstance(parent, ast.Call):
+                    alone = called_name(parent) in ("min", "max") and len(parent.args) == 1
+                    self.assertTrue(alone or called_name(parent) in WALKED_IN and parent.args[0] is node, node.lineno)
+                else:
+                    self.assertIsInstance(parent, (ast.For, ast.comprehension))
+                    self.assertIs(parent.iter, node)
+
+    def test_what_is_walked_is_not_changed(self):
+        for loop in nodes(ast.For):
+            walked = ast.unparse(loop.iter)
+            for node in ast.walk(loop):
+                if isinstance(node, ast.Subscript) and isinstance(node.ctx, ast.Store):
+                    self.assertNotEqual(ast.unparse(node.value), walked)
+                if called_name(node) in CHANGING:
+                    self.assertNotEqual(ast.unparse(node.func.value), walked)
+
+    def test_keywords(self):
+        for node in nodes(ast.Call):
+            for keyword in node.keywords:
+                self.assertIn(called_name(node), ("sorted", "min", "max"))
+                self.assertEqual((keyword.arg, ast.unparse(keyword.value)), ("key", "len"))
+
+    def test_methods_are_called_where_they_stand(self):
+        for node, parent in nodes_with_parents(ast.Attribute):
+            if node.attr in METHODS | own_methods():
+                self.assertTrue(isinstance(parent, ast.Call) and parent.func is node, node.lineno)
+
+    def test_pythons_own_and_classes_are_called(self):
+        classes = {node.name for node in nodes(ast.ClassDef)}
+        for node, parent in nodes_with_parents(ast.Name):
+            if node.id in classes or node.id in OWN_NAMES:
+                named_as_key = isinstance(parent, ast.keyword) and node.id == "len"
+                self.assertTrue(named_as_key or isinstance(parent, ast.Call) and parent.func is node, node.lineno)
+
+
 class Names(unittest.TestCase):
     def test_plain_names(self):
         names = [node.id for node in nodes(ast.Name)] + [node.arg for node in nodes(ast.arg)]
@@ -143,7 +203,7 @@ class Names(unittest.TestCase):
         self.assertEqual(classes & (stored | {node.arg for node in nodes(ast.arg)}), set())
 
     def test_methods_and_values(self):
-        own = {part.name for node in nodes(ast.ClassDef) for part in node.body if isinstance(part, ast.FunctionDef)}
+        own = own_methods()
         kept = {node.attr for node in nodes(ast.Attribute) if isinstance(node.ctx, ast.Store)}
         self.assertEqual(own & kept, set())
         pythons = set(dir(str) + dir(int) + dir(list) + dir(dict) + dir(set) + dir(bytes)) - {"__init__"}

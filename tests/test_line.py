@@ -23,11 +23,14 @@ REFUSED = [
     ("wins", 0, 0, 0, 0, 2), ("wins", 2, 0, 0, 0, 1), ("wins", 0, 2, 0, 0, 1), ("wins", 0, 0, 2, 0, 1),
     ("wins", 0, 0, 0, 2, 1), ("odd", 0, 0, 2), ("odd", 2, 0, 1), ("odd", 0, 2, 1), ("counts", 0, 0, 100),
     ("counts", 2, 0, 3), ("counts", 0, FAR, 3), ("value", [0, 0, 0]), ("value", [2, 0, 0, 0]), ("reply", [0]),
-    ("reply", [0, 2]), ("replyto", [0, 0, 0]), ("replyto", [2, 0]),
+    ("reply", [0, 2]), ("replyto", [0, 0, 0]), ("replyto", [2, 0]), ("nth", 3, 8), ("nth", 2, 0), ("nth", FAR, FAR),
+    ("told", 0), ("told", 4), ("told", FAR), ("pair", 2, 0), ("pair", 0, 2), ("pair", FAR, FAR),
 ]
 
 ASKED = [
     ("best",), ("plans", 1), ("plans", 3), ("value", [0, 1, 0, 0]), ("reply", [1, 0]), ("replyto", [1, 1]),
+    ("nth", 3, 5), ("perfect",), ("core",), ("told", 1), ("told", 2), ("twice",), ("pair", 0, 0), ("pair", 0, 1),
+    ("pair", 1, 0), ("pair", 1, 1), ("game",), ("swap",), ("game",), ("pair", 1, 1), ("swap",),
     ("counts", 0, 0, 1), ("counts", 0, 1, 1), ("counts", 1, 0, 1), ("counts", 1, 1, 1),
 ]
 
@@ -44,8 +47,14 @@ class NotBegun(unittest.TestCase):
 
     def test_ahead_of_the_other_refusals(self):
         for call in [("wins", 9, 9, 9, 9, 9), ("wins", FAR, FAR, FAR, FAR, FAR), ("odd", 9, 9, 9),
-                     ("counts", 9, 9, 100), ("value", [9]), ("reply", [9]), ("replyto", [9])]:
+                     ("counts", 9, 9, 100), ("value", [9]), ("reply", [9]), ("replyto", [9]), ("nth", FAR, FAR),
+                     ("told", 0), ("told", 4), ("told", FAR), ("pair", 9, 9), ("pair", FAR, FAR)]:
             self.assertEqual(run([call]), [[-11]])
+            self.assertEqual(run([("begin", 0, 0, 0, 0), call]), [[-22], [-11]])
+
+    def test_twice_and_core_ahead_of_what_is_too_many_or_none(self):
+        calls = [("begin", 4, 4, 5, 5), ("twice",), ("core",), ("nth", 0, 0), ("swap",), ("game",)]
+        self.assertEqual(run(calls), [[-22]] + [[-11]] * 5)
 
     def test_begun_after_refusals(self):
         calls = NOT_BEGIN + [("begin", 1, 1, 1, 1), ("best",)]
@@ -72,6 +81,13 @@ class RefusedChangesNothing(unittest.TestCase):
         answered = run(ODD_ONE + REFUSED + ASKED)
         self.assertEqual(answered[5 + len(REFUSED):], run(ODD_ONE + ASKED)[5:])
 
+    def test_too_many_and_none(self):
+        told = [("begin", 1, 2, 3, 2), ("wins", 0, 0, 2, 1, 1), ("wins", 0, 1, 2, 0, 1), ("counts", 0, 1, 6)]
+        asked = [("game",), ("pair", 0, 0), ("pair", 0, 1), ("best",), ("perfect",)]
+        answered = run(told + [("twice",), ("core",), ("nth", 7, 1)] + asked)[4:]
+        self.assertEqual(answered[:3], [[-28], [-33], [-33]])
+        self.assertEqual(answered[3:], run(told + asked)[4:])
+
 
 class TheList(unittest.TestCase):
     def test_form_of_what_is_given_back(self):
@@ -79,6 +95,14 @@ class TheList(unittest.TestCase):
         self.assertEqual(answers([0, 1, 1, 1, 1]), [1, 0])
         self.assertEqual(answers([0, 1, 1, 2, 2, 2, 0, 0, 1, 5, 4, 2, 1, 1, 6, 1, 1, 7, 0, 8, 1]),
                          [1, 0, 1, 0, 4, 1, 1, 0, 1, 2, 0, 1, 2, 1, 0, 1, -22, 2, 2, 4])
+
+    def test_form_of_the_other_calls(self):
+        # An odd one among three evens, then nth 3 1, perfect, core, told 2, twice, swap, pair 1 0, game, told 0.
+        calls = [0, 2, 2, 2, 2, 2, 0, 0, 0, 2, 0, 1, 0, 2, 1, 0, 0, 2, 1, 1, 1,
+                 9, 3, 1, 10, 11, 12, 2, 13, 14, 15, 1, 0, 16, 12, 0]
+        self.assertEqual(answers(calls), [1, 0] * 5 + [
+            5, 4, 0, 0, 0, 1, 1, 0, 9, 4, 0, 0, 0, 1, 1, 0, 1, 1, 2, 4, 4, 2, 10, 16, 1, 0, 5, 1, 1, 0, 0, 1,
+            6, 2, 2, 2, 2, 4, 4, 1, -22])
 
     def test_rows_may_look_like_calls(self):
         calls = [("begin", 1, 1, 4, 4), ("value", [0, 3]), ("value", [0, 1, 1, 1, 1]), ("reply", [3]), ("best",)]

@@ -1,9 +1,17 @@
-"""Promise 1: begin, wins, odd, counts."""
+"""Promise 1: begin, wins, odd, counts, swap, pair, game."""
 
 import unittest
 from itertools import product
 
-from tests.helper import FAR, last, run
+from tests.helper import FAR, GUESS, ODD_ONE, TORN, all_win, last, nothing_counts, run, told_exchanged
+
+
+# Unlike in everything: how many questions and answers both have, what wins, and how much each pair counts.
+UNLIKE = [
+    ("begin", 2, 3, 4, 2), ("wins", 0, 1, 3, 0, 1), ("wins", 0, 1, 2, 1, 1), ("wins", 1, 2, 0, 1, 1),
+    ("odd", 1, 0, 1), ("wins", 0, 2, 1, 1, 1), ("counts", 0, 1, 5), ("counts", 1, 2, 0), ("counts", 1, 0, 7),
+    ("counts", 0, 2, 99),
+]
 
 
 def cleared(x, y, a, b):
@@ -132,6 +140,124 @@ class Counts(unittest.TestCase):
                 self.assertEqual(last(begun, ("counts", x, y, much)), [-2])
         for much in (100, 101, FAR):
             self.assertEqual(run([begun, ("counts", 2, 1, much), ("counts", 2, 1, 5)]), [[0], [-22], [1]])
+
+
+class Swap(unittest.TestCase):
+    def test_everything_is_exchanged(self):
+        asked = [("game",)] + [("pair", y, x) for y in range(3) for x in range(2)]
+        self.assertEqual(run(UNLIKE + [("swap",)] + asked)[len(UNLIKE):], [
+            [0], [3, 2, 2, 4, 113, 111],
+            [1, 0, 0, 0, 0, 0, 0, 0, 0], [7, 0, 1, 0, 1, 1, 0, 1, 0],
+            [5, 0, 0, 0, 1, 0, 0, 1, 0], [1, 0, 0, 0, 0, 0, 0, 0, 0],
+            [99, 0, 0, 0, 0, 0, 1, 0, 0], [0, 0, 0, 0, 0, 1, 0, 0, 0],
+        ])
+
+    def test_what_there_is_is_exchanged(self):
+        swapped = UNLIKE + [("swap",)]
+        for call in [("pair", 0, 2), ("pair", 3, 0), ("wins", 0, 2, 0, 0, 1), ("wins", 3, 0, 0, 0, 1),
+                     ("wins", 0, 0, 2, 0, 1), ("wins", 0, 0, 0, 4, 1), ("odd", 0, 2, 0), ("odd", 3, 1, 0),
+                     ("counts", 0, 2, 1), ("counts", 3, 1, 1)]:
+            self.assertEqual(last(*swapped, call), [-2])
+        for call, expected in [(("pair", 2, 1), 0), (("wins", 2, 1, 1, 3, 1), 0), (("wins", 2, 1, 1, 0, 1), 1),
+                               (("odd", 2, 1, 1), 0), (("counts", 2, 1, 8), 0), (("counts", 2, 0, 8), 99)]:
+            self.assertEqual(last(*swapped, call)[0], expected)
+
+    def test_told_further_behind_a_swap(self):
+        further = [("wins", 2, 1, 1, 3, 1), ("wins", 1, 0, 0, 3, 0), ("odd", 0, 0, 1), ("counts", 2, 1, 6),
+                   ("counts", 1, 0, 0)]
+        asked = [("pair", y, x) for y in range(3) for x in range(2)] + [("game",), ("best",)]
+        answered = run(UNLIKE + [("swap",)] + further + asked)[-len(asked):]
+        self.assertEqual(answered[0], [1, 0, 1, 0, 1, 1, 0, 1, 0])
+        self.assertEqual(answered[2], [0, 0, 0, 0, 0, 0, 0, 1, 0])
+        self.assertEqual(answered[5], [6, 0, 0, 0, 0, 1, 0, 0, 1])
+        self.assertEqual(answered, run(UNLIKE + told_exchanged(further) + [("swap",)] + asked)[-len(asked):])
+        self.assertEqual(answered, run(told_exchanged(UNLIKE) + further + asked)[-len(asked):])
+
+    def test_made_twice(self):
+        asked = [("game",), ("best",), ("plans", 7), ("wins", 1, 2, 0, 1, 0)]
+        asked += [("pair", x, y) for x in range(2) for y in range(3)]
+        twice = run(UNLIKE + [("swap",), ("swap",)] + asked)[len(UNLIKE):]
+        self.assertEqual(twice[:2], [[0], [0]])
+        self.assertEqual(twice[2:], run(UNLIKE + asked)[len(UNLIKE):])
+
+    def test_begins_again_behind_it(self):
+        calls = UNLIKE + [("swap",), ("begin", 1, 2, 3, 4), ("game",), ("pair", 0, 1), ("pair", 1, 0)]
+        self.assertEqual(run(calls)[len(UNLIKE):], [[0], [0], [1, 2, 3, 4, 2, 0], [1] + [0] * 12, [-2]])
+
+    def test_a_begin_refused_behind_it(self):
+        calls = [("begin", 1, 2, 3, 4), ("swap",), ("begin", 0, 1, 1, 1), ("game",)]
+        self.assertEqual(run(calls), [[0], [0], [-22], [2, 1, 4, 3, 2, 0]])
+
+    def test_every_size_that_is_told(self):
+        for x, y, a, b in product(range(1, 4), range(1, 4), range(1, 5), range(1, 5)):
+            calls = [("begin", x, y, a, b), ("wins", x - 1, y - 1, a - 1, b - 1, 1), ("swap",), ("game",),
+                     ("pair", y - 1, x - 1), ("value", [b - 1] * y + [a - 1] * x)]
+            self.assertEqual(run(calls)[2:], [[0], [y, x, b, a, x * y, 1], [1] + [0] * (a * b - 1) + [1], [1, x * y]])
+
+    def test_nothing_begun(self):
+        self.assertEqual(run([("swap",), ("begin", 0, 0, 0, 0), ("swap",)]), [[-11], [-22], [-11]])
+
+
+class Pair(unittest.TestCase):
+    def test_the_answers_of_the_second_run_faster(self):
+        told = [("begin", 1, 1, 2, 3), ("wins", 0, 0, 0, 2, 1), ("wins", 0, 0, 1, 0, 1)]
+        self.assertEqual(last(*told, ("pair", 0, 0)), [1, 0, 0, 1, 1, 0, 0])
+        for spot in product(range(3), range(4)):
+            expected = [1 if other == spot else 0 for other in product(range(3), range(4))]
+            self.assertEqual(last(("begin", 1, 1, 3, 4), ("wins", 0, 0, *spot, 1), ("pair", 0, 0)), [1] + expected)
+
+    def test_each_pair(self):
+        asked = [("pair", x, y) for x in range(2) for y in range(3)]
+        self.assertEqual(run(UNLIKE + asked)[len(UNLIKE):], [
+            [1, 0, 0, 0, 0, 0, 0, 0, 0], [5, 0, 0, 0, 0, 0, 1, 1, 0], [99, 0, 0, 0, 1, 0, 0, 0, 0],
+            [7, 0, 1, 1, 0, 0, 1, 1, 0], [1, 0, 0, 0, 0, 0, 0, 0, 0], [0, 0, 1, 0, 0, 0, 0, 0, 0],
+        ])
+
+    def test_one_question_and_one_answer(self):
+        begun = ("begin", 1, 1, 1, 1)
+        self.assertEqual(last(begun, ("pair", 0, 0)), [1, 0])
+        self.assertEqual(last(begun, ("wins", 0, 0, 0, 0, 1), ("counts", 0, 0, 0), ("pair", 0, 0)), [0, 1])
+        self.assertEqual(last(begun, ("odd", 0, 0, 0), ("counts", 0, 0, 99), ("pair", 0, 0)), [99, 1])
+
+    def test_all_answers_win(self):
+        self.assertEqual(last(*all_win(3, 3, 4, 4), ("pair", 2, 2)), [1] + [1] * 16)
+
+    def test_changes_nothing(self):
+        self.assertEqual(run(UNLIKE + [("pair", 0, 1)] * 2)[-2:], [[5, 0, 0, 0, 0, 0, 1, 1, 0]] * 2)
+
+    def test_no_such(self):
+        for x, y in [(2, 0), (0, 3), (3, 0), (2, 3), (100, 0), (0, 100), (FAR, 0), (0, FAR), (FAR, FAR)]:
+            self.assertEqual(last(("begin", 2, 3, 4, 4), ("pair", x, y)), [-2])
+        self.assertEqual(last(("begin", 2, 3, 4, 4), ("pair", 1, 2)), [1] + [0] * 16)
+
+
+class TheGame(unittest.TestCase):
+    def test_odd_one_among_three_evens(self):
+        self.assertEqual(last(*ODD_ONE, ("game",)), [2, 2, 2, 2, 4, 4])
+
+    def test_nothing_told(self):
+        for x, y, a, b in product(range(1, 4), range(1, 4), range(1, 5), range(1, 5)):
+            self.assertEqual(last(("begin", x, y, a, b), ("game",)), [x, y, a, b, x * y, 0])
+
+    def test_heard_is_by_one_answer_of_the_first(self):
+        self.assertEqual(last(*TORN, ("game",)), [1, 2, 2, 1, 2, 1])
+        self.assertEqual(last(*TORN, ("counts", 0, 0, 4), ("game",)), [1, 2, 2, 1, 5, 4])
+        self.assertEqual(last(*TORN, ("counts", 0, 1, 4), ("game",)), [1, 2, 2, 1, 5, 4])
+
+    def test_heard_is_by_an_answer_to_each_question_of_the_second(self):
+        self.assertEqual(last(*told_exchanged(TORN), ("game",)), [2, 1, 1, 2, 2, 2])
+        self.assertEqual(last(*GUESS, ("counts", 1, 0, 50), ("game",)), [3, 1, 1, 3, 52, 52])
+
+    def test_pairs_that_count_nothing(self):
+        self.assertEqual(last(*ODD_ONE, ("counts", 1, 1, 0), ("game",)), [2, 2, 2, 2, 3, 3])
+        self.assertEqual(last(*ODD_ONE, *nothing_counts(2, 2), ("game",)), [2, 2, 2, 2, 0, 0])
+
+    def test_all_answers_win_and_all_count_most(self):
+        told = all_win(3, 3, 4, 4) + [("counts", x, y, 99) for x in range(3) for y in range(3)]
+        self.assertEqual(last(*told, ("game",)), [3, 3, 4, 4, 891, 891])
+
+    def test_unlike_numbers(self):
+        self.assertEqual(last(*UNLIKE, ("game",)), [2, 3, 4, 2, 113, 106])
 
 
 if __name__ == "__main__":

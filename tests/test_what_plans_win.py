@@ -1,17 +1,10 @@
-"""Promise 2: value, best, reply, replyto, plans."""
+"""Promise 2: value, best, reply, replyto, plans, nth."""
 
+import random
 import unittest
 from itertools import product
 
-from tests.helper import FAR, ODD_ONE, last, run
-
-# Asked alone, the first can't answer so that both of the second's questions are won.
-TORN = [("begin", 1, 2, 2, 1), ("wins", 0, 0, 1, 0, 1), ("wins", 0, 1, 0, 0, 1)]
-
-
-def all_win(x, y, a, b):
-    spots = product(range(x), range(y), range(a), range(b))
-    return [("begin", x, y, a, b)] + [("wins", *spot, 1) for spot in spots]
+from tests.helper import FAR, ODD_ONE, TORN, all_win, last, model_run, nothing_counts, run
 
 
 class Value(unittest.TestCase):
@@ -160,6 +153,87 @@ class Plans(unittest.TestCase):
     def test_how_many_there_are(self):
         for x, y, a, b in product(range(1, 4), range(1, 4), range(1, 5), range(1, 5)):
             self.assertEqual(last(("begin", x, y, a, b), ("plans", FAR)), [0, a ** x * b ** y])
+
+    def test_they_add_up(self):
+        dice = random.Random(2012)
+        for time in range(10):
+            told = [("begin", 3, 3, 4, 4)] + [("odd", x, y, dice.randrange(2)) for x in range(3) for y in range(3)]
+            answered = run(told + [("plans", t) for t in range(10)])[-10:]
+            self.assertEqual(sum(just for just, in_all in answered), 4096)
+            self.assertEqual({in_all for just, in_all in answered}, {4096})
+
+
+class Nth(unittest.TestCase):
+    def test_odd_one_among_three_evens(self):
+        winning_three = [[0, 0, 0, 0], [0, 0, 0, 1], [0, 1, 0, 0], [0, 1, 1, 0],
+                         [1, 0, 0, 1], [1, 0, 1, 1], [1, 1, 1, 0], [1, 1, 1, 1]]
+        asked = [("nth", 3, k) for k in range(8)]
+        self.assertEqual(run(ODD_ONE + asked)[5:], [[4] + plan for plan in winning_three])
+        winning_one = [list(plan) for plan in product(range(2), repeat=4) if list(plan) not in winning_three]
+        asked = [("nth", 1, k) for k in range(8)]
+        self.assertEqual(run(ODD_ONE + asked)[5:], [[4] + plan for plan in winning_one])
+
+    def test_none(self):
+        for t, k in [(3, 8), (3, 9), (3, FAR), (1, 8), (0, 0), (2, 0), (4, 0), (4, FAR), (5, 0), (FAR, 0), (FAR, FAR)]:
+            self.assertEqual(last(*ODD_ONE, ("nth", t, k)), [-33])
+
+    def test_one_question_each(self):
+        told = [("begin", 1, 1, 2, 3), ("wins", 0, 0, 1, 2, 1), ("wins", 0, 0, 0, 1, 1), ("counts", 0, 0, 99)]
+        asked = [("nth", 99, 0), ("nth", 99, 1), ("nth", 99, 2), ("nth", 1, 0)]
+        self.assertEqual(run(told + asked)[4:], [[2, 0, 1], [2, 1, 2], [-33], [-33]])
+        self.assertEqual(last(("begin", 1, 1, 1, 1), ("nth", 0, 0)), [2, 0, 0])
+        self.assertEqual(last(("begin", 1, 1, 1, 1), ("nth", 0, 1)), [-33])
+
+    def test_plans_that_win_nothing(self):
+        begun = ("begin", 1, 2, 2, 3)
+        for k, plan in enumerate(product(range(2), range(3), range(3))):
+            self.assertEqual(last(begun, ("nth", 0, k)), [3, *plan])
+        self.assertEqual(last(begun, ("nth", 0, 18)), [-33])
+        self.assertEqual(last(begun, ("nth", 1, 0)), [-33])
+
+    def test_all_answers_win(self):
+        told = all_win(2, 1, 2, 2)
+        self.assertEqual(run(told + [("nth", 2, 7), ("nth", 2, 8), ("nth", 0, 0)])[-3:], [[3, 1, 1, 1], [-33], [-33]])
+
+    def test_pairs_that_count_nothing(self):
+        told = ODD_ONE + nothing_counts(2, 2)
+        self.assertEqual(run(told + [("nth", 0, 15), ("nth", 0, 16), ("nth", 3, 0)])[-3:],
+                         [[4, 1, 1, 1, 1], [-33], [-33]])
+
+    def test_two_pairs_that_cannot_both_be_won(self):
+        asked = [("nth", 1, 0), ("nth", 1, 1), ("nth", 1, 2), ("nth", 2, 0)]
+        self.assertEqual(run(TORN + asked)[3:], [[3, 0, 0, 0], [3, 1, 0, 0], [-33], [-33]])
+
+    def test_the_last_of_most_plans(self):
+        asked = [("nth", 0, 4095), ("nth", 0, 4096), ("nth", 0, 64), ("nth", 0, 63), ("nth", 0, 27)]
+        self.assertEqual(run([("begin", 3, 3, 4, 4)] + asked)[1:],
+                         [[6] + [3] * 6, [-33], [6, 0, 0, 1, 0, 0, 0], [6, 0, 0, 0, 3, 3, 3], [6, 0, 0, 0, 1, 2, 3]])
+
+    def test_every_place_against_plans(self):
+        dice = random.Random(7)
+        for sizes in [(1, 1, 3, 2), (1, 2, 4, 2), (2, 1, 2, 4), (2, 2, 3, 2), (1, 3, 2, 3), (3, 1, 3, 4)]:
+            spots = list(product(*[range(size) for size in sizes]))
+            told = [("begin", *sizes)] + [("wins", *spot, 1) for spot in spots if dice.random() < 0.5]
+            told += [("counts", x, y, dice.randrange(4)) for x in range(sizes[0]) for y in range(sizes[1])]
+            total = last(*told, ("best",))[1]
+            in_order = []
+            for t in range(total + 2):
+                just, in_all = last(*told, ("plans", t))
+                found = run(told + [("nth", t, k) for k in range(just + 1)])[len(told):]
+                self.assertEqual(found[-1], [-33])
+                plans = [answered[1:] for answered in found[:-1]]
+                self.assertEqual(plans, sorted(plans))
+                self.assertEqual({answered[0] for answered in found[:-1]} - {sizes[0] + sizes[1]}, set())
+                for plan in plans:
+                    self.assertEqual(last(*told, ("value", plan)), [t, total])
+                in_order.extend(plans)
+            everyone = product(*[range(sizes[2])] * sizes[0], *[range(sizes[3])] * sizes[1])
+            self.assertEqual(sorted(in_order), [list(plan) for plan in everyone])
+
+    def test_against_model(self):
+        told = ODD_ONE + [("counts", 0, 0, 0), ("counts", 1, 1, 2), ("wins", 0, 1, 1, 0, 1)]
+        asked = [("nth", t, k) for t in range(6) for k in range(17)]
+        self.assertEqual(run(told + asked), model_run(told + asked))
 
 
 if __name__ == "__main__":
